@@ -1,0 +1,1 @@
+"""Games of tricks with all cards seen."""
