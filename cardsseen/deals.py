@@ -8,6 +8,10 @@ SUITS = 4
 RANKS = 13
 CARDS = 52
 PLAYERS = 4
+# The rank of the lowest card that counts points.
+JACK = 9
+# The thirteen bits of a suit, moved down to the lowest.
+WHOLE_SUIT = 8191
 
 
 def holds(hand, card):
@@ -54,3 +58,22 @@ def deal_fault(hands):
 
 def is_deal(hands):
     return deal_fault(hands) == 0
+
+
+def is_full_deal(hands):
+    return is_deal(hands) and card_count(hands[0]) == RANKS
+
+
+# 4, 3, 2, 1 for each ace, king, queen, jack; no other bit is looked at.
+def hand_points(hand):
+    total = 0
+    for suit in range(SUITS):
+        for worth in range(1, 5):
+            if holds(hand, RANKS * suit + JACK - 1 + worth):
+                total += worth
+    return total
+
+
+# How many clubs, diamonds, hearts, spades; no other bit is looked at.
+def suit_lengths(hand):
+    return [card_count((hand >> (RANKS * suit)) & WHOLE_SUIT) for suit in range(SUITS)]
