@@ -1,11 +1,12 @@
 """The calls. Each answers one list: 0 and what was asked for, or a refusal.
 
 The refusals: -1 an argument that is out of bounds, -2 and a place where a text
-goes wrong, -3 hands that are not what the call needs.
+goes wrong, -3 hands that are not what the call needs, or a number of no deal.
 """
 
 from cardsseen.deals import PLAYERS, deal_fault, hand_points, is_deal, is_full_deal, suit_lengths
-from cardsseen.order import deals_before
+from cardsseen.order import FULL_DEALS, deal_after, deals_before
+from cardsseen.rules import is_position, playable_cards, player_to_play
 from cardsseen.texts import deal_bytes, read_deal
 
 
@@ -45,3 +46,32 @@ def number(hands):
     if not is_full_deal(hands):
         return [-3]
     return [0, deals_before(hands)]
+
+
+def deal(n):
+    if n >= FULL_DEALS:
+        return [-3]
+    return [0] + deal_after(n)
+
+
+# The refusal that stands against a position, 0 if none does.
+def position_refusal(strain, leader, hands, trick):
+    if len(hands) != PLAYERS:
+        return -1
+    if not is_position(strain, leader, hands, trick):
+        return -3
+    return 0
+
+
+def turn(strain, leader, hands, trick):
+    refusal = position_refusal(strain, leader, hands, trick)
+    if refusal != 0:
+        return [refusal]
+    return [0, player_to_play(leader, trick)]
+
+
+def plays(strain, leader, hands, trick):
+    refusal = position_refusal(strain, leader, hands, trick)
+    if refusal != 0:
+        return [refusal]
+    return [0] + playable_cards(leader, hands, trick)
