@@ -1,13 +1,19 @@
 """The calls. Each answers one list: 0 and what was asked for, or a refusal.
 
 The refusals: -1 an argument that is out of bounds, -2 and a place where a text
-goes wrong, -3 hands that are not what the call needs, or a number of no deal.
+goes wrong, -3 hands that are not what the call needs, or a number of no deal,
+-9 more cards than best play is told for.
 """
 
-from cardsseen.deals import PLAYERS, deal_fault, hand_points, is_deal, is_full_deal, suit_lengths
+from cardsseen.bestplay import best_cards, worth
+from cardsseen.deals import PLAYERS, card_count, deal_fault, hand_points, is_deal, is_full_deal, suit_lengths
 from cardsseen.order import FULL_DEALS, deal_after, deals_before
-from cardsseen.rules import is_position, playable_cards, player_to_play
+from cardsseen.rules import NO_TRUMPS, are_different_cards, hands_with_trick_back, is_position
+from cardsseen.rules import playable_cards, player_to_play, trick_winner
 from cardsseen.texts import deal_bytes, read_deal
+
+# Best play is told for at most so many cards a hand.
+MOST_CARDS = 3
 
 
 def fault(hands):
@@ -75,3 +81,33 @@ def plays(strain, leader, hands, trick):
     if refusal != 0:
         return [refusal]
     return [0] + playable_cards(leader, hands, trick)
+
+
+def winner(strain, leader, cards):
+    if strain > NO_TRUMPS or leader >= PLAYERS or len(cards) != PLAYERS or not are_different_cards(cards):
+        return [-1]
+    return [0, trick_winner(strain, leader, cards)]
+
+
+# The refusal that stands against telling best play from a position, 0 if none does.
+def best_play_refusal(strain, leader, hands, trick):
+    refusal = position_refusal(strain, leader, hands, trick)
+    if refusal != 0:
+        return refusal
+    if card_count(hands_with_trick_back(leader, hands, trick)[0]) > MOST_CARDS:
+        return -9
+    return 0
+
+
+def tricks(strain, leader, hands, trick):
+    refusal = best_play_refusal(strain, leader, hands, trick)
+    if refusal != 0:
+        return [refusal]
+    return [0, worth(strain, leader, hands, trick)]
+
+
+def best(strain, leader, hands, trick):
+    refusal = best_play_refusal(strain, leader, hands, trick)
+    if refusal != 0:
+        return [refusal]
+    return [0] + best_cards(strain, leader, hands, trick)

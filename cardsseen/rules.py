@@ -1,4 +1,4 @@
-"""The rules of tricks: what a position is, whose turn it is, what may be played."""
+"""The rules of tricks: what a position is, whose turn it is, what may be played, who wins."""
 
 from cardsseen.deals import CARDS, PLAYERS, RANKS, WHOLE_SUIT, holds, is_deal
 
@@ -77,3 +77,20 @@ def playable_cards(leader, hands, trick):
         if following != 0:
             return cards_in(following)
     return cards_in(hand)
+
+
+# How high a card is in a trick: trumps above the suit led, the other suits below every card of
+# these.
+def height(strain, led, card):
+    suit = suit_of(card)
+    if suit == strain:
+        return RANKS + card % RANKS
+    if suit == led:
+        return card % RANKS
+    return -1
+
+
+def trick_winner(strain, leader, cards):
+    led = suit_of(cards[0])
+    heights = [height(strain, led, card) for card in cards]
+    return player_at(leader, heights.index(max(heights)))

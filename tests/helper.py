@@ -1,5 +1,6 @@
 """What the tests share: cards and hands from words, deals and positions to try, lists that watch."""
 
+import functools
 import itertools
 import random
 
@@ -72,6 +73,46 @@ def may_be_played(leader, hands, trick):
     held = cards_of(hands[(leader + len(trick)) % 4])
     following = [c for c in held if trick and c // 13 == trick[0] // 13]
     return following or held
+
+
+def taker_of(strain, leader, cards):
+    """Who wins the trick of these four cards, by the rules as they are worded."""
+    trumps = [c for c in cards if c // 13 == strain]
+    counting = trumps or [c for c in cards if c // 13 == cards[0] // 13]
+    highest = max(counting, key=lambda c: c % 13)
+    return (leader + cards.index(highest)) % 4
+
+
+def after_card(strain, leader, hands, trick, played):
+    """How many tricks side 0 gets at once when this card is played, and the position then."""
+    hands, trick = list(hands), list(trick) + [played]
+    hands[(leader + len(trick) - 1) % 4] -= 2 ** played
+    if len(trick) < 4:
+        return 0, (strain, leader, hands, trick)
+    taker = taker_of(strain, leader, trick)
+    return (1 if taker in (0, 2) else 0), (strain, taker, hands, [])
+
+
+def true_worths(strain, leader, hands, trick):
+    """What comes of each card that may be played now, by best play as it is worded."""
+    worths = {}
+    for played in may_be_played(leader, hands, trick):
+        won, position = after_card(strain, leader, hands, trick, played)
+        worths[played] = won + true_worth(*position)
+    return worths
+
+
+def true_worth(strain, leader, hands, trick):
+    return worth_once(strain, leader, tuple(hands), tuple(trick))
+
+
+# Kept, since many ways to play lead to the same cards.
+@functools.lru_cache(maxsize=100000)
+def worth_once(strain, leader, hands, trick):
+    worths = true_worths(strain, leader, list(hands), list(trick)).values()
+    if not any(hands) and not trick:
+        return 0
+    return max(worths) if (leader + len(trick)) % 4 in (0, 2) else min(worths)
 
 
 def pool_of(rng, size):
@@ -183,3 +224,17 @@ def check_positions_unchanged_and_repeated(test, call):
         check_unchanged_and_repeated(test, call, *position)
     for hands, trick in (([], []), ([1] * 4, [2]), ([1, 2, 4, 8], [0]), ([0] * 4, [0, 1, 2, 3]), ([0] * 6, [52])):
         check_unchanged_and_repeated(test, call, 4, 3, hands, trick)
+
+
+def check_too_many_cards(test, call):
+    """The call refuses with -9 more than 3 cards a hand, the trick's back, but -3 and -1 come first."""
+    for position in positions(54, 1, range(4, 14)):
+        test.assertEqual(call(*position), [-9], position)
+    for position in positions(55, 1, (4, 13)):
+        for wrong in no_positions_near(*position):
+            test.assertEqual(call(*wrong), [-3], wrong)
+        strain, leader, hands, trick = position
+        test.assertEqual(call(strain, leader, hands[:3], trick), [-1], position)
+        test.assertEqual(call(strain, leader, hands + [0], trick), [-1], position)
+    for position in positions(56, 1, (0, 1, 2, 3)):
+        test.assertEqual(call(*position)[0], 0, position)

@@ -139,6 +139,16 @@ class LanguageTest(unittest.TestCase):
             if isinstance(node, ast.arg):
                 self.assertNotIn(node.arg, python_names, place)
 
+    def test_locals_are_not_called_like_imports_or_classes(self):
+        for path, tree in self.trees.items():
+            taken = [alias.name for node in tree.body if isinstance(node, ast.ImportFrom) for alias in node.names]
+            taken += [node.name for node in tree.body if isinstance(node, ast.ClassDef)]
+            for node in ast.walk(tree):
+                if isinstance(node, ast.Name) and isinstance(node.ctx, ast.Store):
+                    self.assertNotIn(node.id, taken, (path, node.lineno))
+                if isinstance(node, ast.arg):
+                    self.assertNotIn(node.arg, taken, (path, node.lineno))
+
     def test_methods(self):
         own = [node.name for place, node in self.nodes() if isinstance(node, ast.FunctionDef)]
         for place, node in self.nodes():
