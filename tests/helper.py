@@ -25,8 +25,12 @@ def card(name):
     return 13 * SUIT_LETTERS.index(name[0]) + RANK_LETTERS.index(name[1])
 
 
-def hand(names):
-    return sum(2 ** card(name) for name in names.split())
+def cards_named(words):
+    return [card(name) for name in words.split()]
+
+
+def hand(words):
+    return sum(2 ** c for c in cards_named(words))
 
 
 def bytes_of(words):
@@ -35,6 +39,11 @@ def bytes_of(words):
 
 def words_of(numbers):
     return bytes(numbers).decode("ascii")
+
+
+def owners(hands):
+    """Who has card 51, card 50 and so on down: full deals are in order as these rows are."""
+    return [next(p for p in range(4) if hands[p] >> c & 1) for c in range(51, -1, -1)]
 
 
 def deal_of(rng, size, pool=range(52)):

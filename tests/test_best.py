@@ -2,19 +2,15 @@ import itertools
 import unittest
 
 from cardsseen.play import best, plays, tricks
-from helper import after_card, card, hand, positions, true_worth, true_worths
+from helper import after_card, card, cards_named, hand, positions, true_worth, true_worths
 from helper import check_no_positions, check_not_four_hands, check_positions_unchanged_and_repeated
 from helper import check_too_many_cards
-
-
-def names(words):
-    return [card(name) for name in words.split()]
 
 
 class BestTest(unittest.TestCase):
     def check_best(self, strain, leader, words, best_words):
         hands = [hand(cards) for cards in words.split(",")]
-        self.assertEqual(best(strain, leader, hands, []), [0] + names(best_words), words)
+        self.assertEqual(best(strain, leader, hands, []), [0] + cards_named(best_words), words)
 
     def test_nothing_where_there_are_no_cards(self):
         for strain, leader in itertools.product(range(5), range(4)):
@@ -41,14 +37,14 @@ class BestTest(unittest.TestCase):
     def test_the_trick_that_ends_counts(self):
         """Who plays last wins this trick with the ace and the next with the two, or loses this one."""
         hands = [hand("H2"), hand("SA S2"), hand("H3"), hand("H4")]
-        self.assertEqual(best(4, 2, hands, names("S3 D5 S4")), [0, card("SA")])
+        self.assertEqual(best(4, 2, hands, cards_named("S3 D5 S4")), [0, card("SA")])
         hands = [hand("H2"), hand("H3"), hand("SA S2"), hand("H4")]
-        self.assertEqual(best(4, 3, hands, names("S3 D5 S4")), [0, card("SA")])
+        self.assertEqual(best(4, 3, hands, cards_named("S3 D5 S4")), [0, card("SA")])
 
     def test_a_trick_may_be_left_to_the_other_side(self):
         """East's ace now or at the next lead: one trick either way."""
         hands = [hand("D3"), hand("SA S2"), hand("S4"), hand("D4")]
-        self.assertEqual(best(4, 2, hands, names("S3 D5 D6")), [0] + names("S2 SA"))
+        self.assertEqual(best(4, 2, hands, cards_named("S3 D5 D6")), [0] + cards_named("S2 SA"))
 
     def test_positions_against_best_play_as_worded(self):
         some, every = 0, 0

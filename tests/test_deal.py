@@ -3,17 +3,12 @@ import random
 import unittest
 
 from cardsseen.play import deal, fault, number, read, write
-from helper import check_unchanged_and_repeated, deals
+from helper import check_unchanged_and_repeated, deals, owners
 
 COUNT = math.factorial(52) // math.factorial(13) ** 4
 GREATEST = 79228162514264337593543950335
 FIRST = [(2 ** 13 - 1) << 13 * suit for suit in (3, 2, 1, 0)]
 LAST = FIRST[::-1]
-
-
-def owners(hands):
-    """Who has card 51, card 50 and so on down: full deals are in order as these rows are."""
-    return [next(p for p in range(4) if hands[p] >> card & 1) for card in range(51, -1, -1)]
 
 
 class DealTest(unittest.TestCase):

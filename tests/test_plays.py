@@ -2,22 +2,18 @@ import itertools
 import unittest
 
 from cardsseen.play import plays
-from helper import GREATEST_HAND, card, cards_of, hand, may_be_played, positions
+from helper import GREATEST_HAND, card, cards_named, cards_of, hand, may_be_played, positions
 from helper import check_no_positions, check_not_four_hands, check_positions_unchanged_and_repeated
-
-
-def names(words):
-    return [card(name) for name in words.split()]
 
 
 class PlaysTest(unittest.TestCase):
     def test_leader_plays_any_card(self):
         hands = [hand("C2 SA"), hand("H4 D3"), hand("ST C9"), hand("D2 DA")]
         for strain in range(5):
-            self.assertEqual(plays(strain, 0, hands, []), [0] + names("C2 SA"))
-            self.assertEqual(plays(strain, 1, hands, []), [0] + names("D3 H4"))
-            self.assertEqual(plays(strain, 2, hands, []), [0] + names("C9 ST"))
-            self.assertEqual(plays(strain, 3, hands, []), [0] + names("D2 DA"))
+            self.assertEqual(plays(strain, 0, hands, []), [0] + cards_named("C2 SA"))
+            self.assertEqual(plays(strain, 1, hands, []), [0] + cards_named("D3 H4"))
+            self.assertEqual(plays(strain, 2, hands, []), [0] + cards_named("C9 ST"))
+            self.assertEqual(plays(strain, 3, hands, []), [0] + cards_named("D2 DA"))
 
     def test_who_can_must_follow(self):
         for suit, leader, strain in itertools.product(range(4), range(4), range(5)):
@@ -35,13 +31,13 @@ class PlaysTest(unittest.TestCase):
     def test_who_cannot_follow_plays_any_card_trumps_or_not(self):
         hands = [hand("C3 DA"), hand("D5 H2 SA"), hand("C4 C5 C6"), hand("C7 C8 C9")]
         for strain in range(5):
-            self.assertEqual(plays(strain, 0, hands, names("C2")), [0] + names("D5 H2 SA"))
+            self.assertEqual(plays(strain, 0, hands, cards_named("C2")), [0] + cards_named("D5 H2 SA"))
 
     def test_the_suit_led_counts_not_the_last_one_played(self):
         hands = [hand("C3"), hand("D5"), hand("C6 D7"), hand("C8 D8")]
-        self.assertEqual(plays(1, 0, hands, names("C2 D4")), [0, card("C6")])
+        self.assertEqual(plays(1, 0, hands, cards_named("C2 D4")), [0, card("C6")])
         hands = [hand("C3"), hand("D5"), hand("D7"), hand("C8 D8")]
-        self.assertEqual(plays(1, 0, hands, names("C2 D4 D6")), [0, card("C8")])
+        self.assertEqual(plays(1, 0, hands, cards_named("C2 D4 D6")), [0, card("C8")])
 
     def test_each_card_led_and_each_card_held(self):
         for led, held in itertools.product(range(52), range(52)):

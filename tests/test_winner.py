@@ -3,24 +3,20 @@ import random
 import unittest
 
 from cardsseen.play import winner
-from helper import GREATEST_NUMBER, RANK_LETTERS, card, check_unchanged_and_repeated, taker_of
-
-
-def names(words):
-    return [card(name) for name in words.split()]
+from helper import GREATEST_NUMBER, RANK_LETTERS, cards_named, check_unchanged_and_repeated, taker_of
 
 
 class WinnerTest(unittest.TestCase):
     def check_place(self, strain, words, place):
         """The card at this place of the trick wins it, whoever leads."""
         for leader in range(4):
-            self.assertEqual(winner(strain, leader, names(words)), [0, (leader + place) % 4], words)
+            self.assertEqual(winner(strain, leader, cards_named(words)), [0, (leader + place) % 4], words)
 
     def test_each_leader(self):
-        self.assertEqual(winner(4, 0, names("C2 C3 C5 C4")), [0, 2])
-        self.assertEqual(winner(4, 1, names("C2 C3 C5 C4")), [0, 3])
-        self.assertEqual(winner(4, 2, names("C2 C3 C5 C4")), [0, 0])
-        self.assertEqual(winner(4, 3, names("C2 C3 C5 C4")), [0, 1])
+        self.assertEqual(winner(4, 0, cards_named("C2 C3 C5 C4")), [0, 2])
+        self.assertEqual(winner(4, 1, cards_named("C2 C3 C5 C4")), [0, 3])
+        self.assertEqual(winner(4, 2, cards_named("C2 C3 C5 C4")), [0, 0])
+        self.assertEqual(winner(4, 3, cards_named("C2 C3 C5 C4")), [0, 1])
 
     def test_highest_card_of_the_suit_led(self):
         for suit, strain in itertools.product("CDHS", range(5)):
