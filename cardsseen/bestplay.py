@@ -1,7 +1,7 @@
-"""Best play: how many tricks side 0 gets if all play their best, and with which cards."""
+"""Best play: how many tricks each side gets if all play their best, and with which cards."""
 
-from cardsseen.deals import PLAYERS
-from cardsseen.rules import playable_cards, player_to_play, trick_winner
+from cardsseen.deals import PLAYERS, card_count
+from cardsseen.rules import NO_TRUMPS, playable_cards, player_at, player_to_play, trick_winner
 
 SIDES = 2
 
@@ -10,10 +10,16 @@ def is_of_side_0(player):
     return player % SIDES == 0
 
 
-# The worth of what comes when this card is played now, a trick that ends with it counted.
-def worth_after(strain, leader, hands, trick, card):
+# The hands when this card has been played now.
+def hands_after(leader, hands, trick, card):
     left = list(hands)
     left[player_to_play(leader, trick)] -= 1 << card
+    return left
+
+
+# The worth of what comes when this card is played now, a trick that ends with it counted.
+def worth_after(strain, leader, hands, trick, card):
+    left = hands_after(leader, hands, trick, card)
     played = trick + [card]
     if len(played) < PLAYERS:
         return worth(strain, leader, left, played)
@@ -50,3 +56,34 @@ def best_cards(strain, leader, hands, trick):
     worths = worths_after(strain, leader, hands, trick, cards)
     kept = best_of(player_to_play(leader, trick), worths)
     return [card for card, after in zip(cards, worths) if after == kept]
+
+
+# The cards played from here to the end, always the least that keeps the worth.
+def best_line(strain, leader, hands, trick):
+    cards = []
+    left = list(hands)
+    leading = leader
+    played = list(trick)
+    while max(left) > 0:
+        card = best_cards(strain, leading, left, played)[0]
+        cards.append(card)
+        left = hands_after(leading, left, played, card)
+        played.append(card)
+        if len(played) == PLAYERS:
+            leading = trick_winner(strain, leading, played)
+            played = []
+    return cards
+
+
+# How many tricks the player's side gets if the next player leads.
+def tricks_of_side(strain, player, hands):
+    won = worth(strain, player_at(player, 1), hands, [])
+    return won if is_of_side_0(player) else card_count(hands[player]) - won
+
+
+# For each strain, the tricks of each player's side.
+def tricks_by_strain(hands):
+    told = []
+    for strain in range(NO_TRUMPS + 1):
+        told.extend([tricks_of_side(strain, player, hands) for player in range(PLAYERS)])
+    return told

@@ -5,8 +5,9 @@ goes wrong, -3 hands that are not what the call needs, or a number of no deal,
 -9 more cards than best play is told for.
 """
 
-from cardsseen.bestplay import best_cards, worth
-from cardsseen.deals import PLAYERS, card_count, deal_fault, hand_points, is_deal, is_full_deal, suit_lengths
+from cardsseen.bestplay import best_cards, best_line, tricks_by_strain, worth
+from cardsseen.contracts import contract_score, is_contract
+from cardsseen.deals import PLAYERS, RANKS, card_count, deal_fault, hand_points, is_deal, is_full_deal, suit_lengths
 from cardsseen.order import FULL_DEALS, deal_after, deals_before
 from cardsseen.rules import NO_TRUMPS, are_different_cards, hands_with_trick_back, is_position
 from cardsseen.rules import playable_cards, player_to_play, trick_winner
@@ -111,3 +112,24 @@ def best(strain, leader, hands, trick):
     if refusal != 0:
         return [refusal]
     return [0] + best_cards(strain, leader, hands, trick)
+
+
+def line(strain, leader, hands, trick):
+    refusal = best_play_refusal(strain, leader, hands, trick)
+    if refusal != 0:
+        return [refusal]
+    return [0] + best_line(strain, leader, hands, trick)
+
+
+def table(hands):
+    # With no trick begun, a deal is a position whatever the strain and the leader are.
+    refusal = best_play_refusal(NO_TRUMPS, 0, hands, [])
+    if refusal != 0:
+        return [refusal]
+    return [0] + tricks_by_strain(hands)
+
+
+def score(level, strain, doubled, vul, tricks):
+    if not is_contract(level, strain, doubled, vul) or tricks > RANKS:
+        return [-1]
+    return [0, contract_score(level, strain, doubled, vul, tricks)]
