@@ -1,13 +1,11 @@
 """Best play: how many tricks each side gets if all play their best, and with which cards."""
 
 from cardsseen.deals import PLAYERS, card_count
-from cardsseen.rules import NO_TRUMPS, playable_cards, player_at, player_to_play, trick_winner
-
-SIDES = 2
+from cardsseen.rules import STRAINS, playable_cards, player_at, player_to_play, side_of, trick_winner
 
 
 def is_of_side_0(player):
-    return player % SIDES == 0
+    return side_of(player) == 0
 
 
 # The hands when this card has been played now.
@@ -84,6 +82,6 @@ def tricks_of_side(strain, player, hands):
 # For each strain, the tricks of each player's side.
 def tricks_by_strain(hands):
     told = []
-    for strain in range(NO_TRUMPS + 1):
+    for strain in range(STRAINS):
         told.extend([tricks_of_side(strain, player, hands) for player in range(PLAYERS)])
     return told

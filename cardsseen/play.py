@@ -1,10 +1,11 @@
 """The calls. Each answers one list: 0 and what was asked for, or a refusal.
 
 The refusals: -1 an argument that is out of bounds, -2 and a place where a text
-goes wrong, -3 hands that are not what the call needs, or a number of no deal,
--9 more cards than best play is told for.
+or an auction goes wrong, -3 hands that are not what the call needs, or a number
+of no deal, -9 more cards than best play is told for.
 """
 
+from cardsseen.auction import outcome_of_calls
 from cardsseen.bestplay import best_cards, best_line, tricks_by_strain, worth
 from cardsseen.contracts import contract_score, is_contract
 from cardsseen.deals import PLAYERS, RANKS, card_count, deal_fault, hand_points, is_deal, is_full_deal, suit_lengths
@@ -133,3 +134,9 @@ def score(level, strain, doubled, vul, tricks):
     if not is_contract(level, strain, doubled, vul) or tricks > RANKS:
         return [-1]
     return [0, contract_score(level, strain, doubled, vul, tricks)]
+
+
+def bids(dealer, calls):
+    if dealer >= PLAYERS:
+        return [-1]
+    return outcome_of_calls(dealer, calls)

@@ -2,8 +2,15 @@
 
 from cardsseen.deals import CARDS, PLAYERS, RANKS, WHOLE_SUIT, holds, is_deal
 
+SIDES = 2
+STRAINS = 5
 # The strain with which no suit is trumps; the lower ones are suits.
 NO_TRUMPS = 4
+
+
+# North and south are side 0, east and west side 1.
+def side_of(player):
+    return player % SIDES
 
 
 def suit_of(card):
